@@ -1,0 +1,1 @@
+"""Anyfont: line breaks when the widths of letters are only partly known."""

@@ -1,0 +1,29 @@
+"""Small helpers over plain values that several files share."""
+
+from math import gcd
+
+
+def is_integer(value):
+    """Return whether any value is an integer; True and False are none."""
+    return isinstance(value, int) and not isinstance(value, bool)
+
+
+def is_integer_within(value, low, high):
+    """Return whether any value is an integer from low to high."""
+    return is_integer(value) and low <= value <= high
+
+
+def is_tuple_of(value, size):
+    """Return whether any value is a tuple with so many items."""
+    return isinstance(value, tuple) and len(value) == size
+
+
+def are_integers_within(value, size, low, high):
+    """Return whether any value is a tuple of so many integers from low to high."""
+    return is_tuple_of(value, size) and all([is_integer_within(item, low, high) for item in value])
+
+
+def lowest_terms(numerator, denominator):
+    """Return the fraction of two integers; the denominator is at least 1."""
+    common = gcd(numerator, denominator)
+    return numerator // common, denominator // common

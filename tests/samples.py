@@ -1,0 +1,31 @@
+"""Values that several test files share."""
+
+TINY = ('im', (((0, 2, -1), 0, False), ((-1, 0, 0), -1, False)))
+FIXED = (
+    'im',
+    (
+        ((1, 0, 0), 1, False), ((-1, 0, 0), -1, False),
+        ((0, 1, 0), 2, False), ((0, -1, 0), -2, False),
+        ((0, 0, 1), 3, False), ((0, 0, -1), -3, False),
+    ),
+)
+
+LARGE = 10 ** 39 + 7
+
+
+def nested(depth):
+    """Return lists and tuples within each other."""
+    value = None
+    for level in range(depth):
+        value = [value] if level % 2 else (value,)
+    return value
+
+
+# None of these is a condition, a font, a knowledge or a text.
+ODD_VALUES = (
+    None, True, False, 0, 1, -1, 10 ** 59, '', ' ', 'A B C', 'im\n', '\u00e9', '\U0001f600', '\x00',
+    (), (1,), (1, 2), (1, 2, 3), (None, None), (None, None, None), ('im',), ('im', None), ('im', 3), ('im', 'im'),
+    ((), ()), ((), (), ()), ([], []), [], [1, 2], [1, (1, 2, 4)], ['im', ()], [(0, 0, 0), 0, False],
+    {}, {0: 1, 1: (1, 2, 4)}, {'im': ()}, {0: (0, 0, 0), 1: 0, 2: False}, {(1, 2): [3]},
+    nested(20), tuple(range(20000)), 'x' * 20000, ['i'] * 20000,
+)

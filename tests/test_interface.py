@@ -1,0 +1,52 @@
+"""The interface: each name stands in its file, with its arguments."""
+
+import doctest
+import inspect
+import pathlib
+import unittest
+from importlib import import_module
+
+README = pathlib.Path(__file__).resolve().parent.parent / 'README.md'
+
+FUNCTIONS = {
+    'anyfont.knowledge': {
+        'is_condition': ['letters', 'value'],
+        'is_font': ['letters', 'value'],
+        'is_knowledge': ['value'],
+        'holds': ['condition', 'font'],
+        'fits': ['knowledge', 'font'],
+    },
+    'anyfont.texts': {
+        'is_text': ['letters', 'value'],
+        'counts': ['letters', 'string'],
+        'width': ['letters', 'string', 'font'],
+        'lines': ['letters', 'text', 'measure', 'font'],
+    },
+}
+ERRORS = {'InvalidName': ['name'], 'NameInUse': ['name'], 'DeskFull': ['limit'], 'InvalidIndex': ['index']}
+
+
+class InterfaceTest(unittest.TestCase):
+    def test_functions(self):
+        for module, table in FUNCTIONS.items():
+            for name, arguments in table.items():
+                with self.subTest(module=module, name=name):
+                    function = getattr(import_module(module), name)
+                    self.assertTrue(inspect.isfunction(function))
+                    self.assertEqual(function.__module__, module)
+                    self.assertEqual(list(inspect.signature(function).parameters), arguments)
+
+    def test_errors(self):
+        module = import_module('anyfont.errors')
+        for name, arguments in ERRORS.items():
+            with self.subTest(name=name):
+                self.assertEqual(list(inspect.signature(getattr(module, name)).parameters), arguments)
+
+    def test_examples_of_the_readme(self):
+        found = doctest.testfile(str(README), module_relative=False)
+        self.assertGreater(found.attempted, 0)
+        self.assertEqual(found.failed, 0)
+
+
+if __name__ == '__main__':
+    unittest.main()
