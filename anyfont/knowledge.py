@@ -1,8 +1,6 @@
 """Letters, fonts, conditions and knowledges (stage 1)."""
 
-from math import gcd
-
-from anyfont.values import are_integers_within, is_integer, is_integer_within, is_tuple_of
+from anyfont.values import are_integers_within, common_divisor, is_integer, is_integer_within, is_tuple_of
 
 MOST_LETTERS = 4
 MOST_UNITS = 20
@@ -42,16 +40,8 @@ def is_font(letters, value):
         return False
     return (
         are_integers_within(widths, len(letters) + 1, 0, MOST_UNITS * unit)
-        and common_divisor(unit, widths) == 1
+        and common_divisor([unit, *widths]) == 1
     )
-
-
-def common_divisor(unit, widths):
-    """Return the greatest common divisor of a unit and all widths."""
-    common = unit
-    for part in widths:
-        common = gcd(common, part)
-    return common
 
 
 def is_knowledge(value):

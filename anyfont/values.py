@@ -23,6 +23,14 @@ def are_integers_within(value, size, low, high):
     return is_tuple_of(value, size) and all([is_integer_within(item, low, high) for item in value])
 
 
+def common_divisor(integers):
+    """Return the greatest common divisor of integers that are not all 0."""
+    common = 0
+    for integer in integers:
+        common = gcd(common, integer)
+    return common
+
+
 def lowest_terms(numerator, denominator):
     """Return the fraction of two integers; the denominator is at least 1."""
     common = gcd(numerator, denominator)

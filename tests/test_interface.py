@@ -22,6 +22,23 @@ FUNCTIONS = {
         'width': ['letters', 'string', 'font'],
         'lines': ['letters', 'text', 'measure', 'font'],
     },
+    'anyfont.refutations': {'is_refutation': ['knowledge', 'conditions', 'value']},
+    'anyfont.solving': {
+        'find_font': ['knowledge', 'conditions'],
+        'find_refutation': ['knowledge', 'conditions'],
+        'has_font': ['knowledge'],
+    },
+    'anyfont.claims': {
+        'opposite': ['condition'],
+        'is_sure': ['knowledge', 'claim'],
+        'is_possible': ['knowledge', 'claim'],
+        'highest': ['knowledge', 'factors'],
+    },
+    'anyfont.comparing': {
+        'never_wider': ['knowledge', 'string', 'other'],
+        'find_wider': ['knowledge', 'string', 'other'],
+        'widest': ['knowledge', 'strings'],
+    },
 }
 ERRORS = {'InvalidName': ['name'], 'NameInUse': ['name'], 'DeskFull': ['limit'], 'InvalidIndex': ['index']}
 
