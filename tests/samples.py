@@ -29,3 +29,26 @@ ODD_VALUES = (
     {}, {0: 1, 1: (1, 2, 4)}, {'im': ()}, {0: (0, 0, 0), 1: 0, 2: False}, {(1, 2): [3]},
     nested(20), tuple(range(20000)), 'x' * 20000, ['i'] * 20000,
 )
+
+NOTHING = ('im', ())
+# At most 3 and at least 4; less than 3 and at least 3; less than nothing.
+EMPTY = (
+    ('im', (((0, 1, 0), 3, False), ((0, -1, 0), -4, False))),
+    ('im', (((0, 1, 0), 3, True), ((0, -1, 0), -3, False))),
+    ('im', (((0, 0, 0), -1, False),)),
+)
+
+
+def known(letters, *widths):
+    """Return the knowledge that has just one fitting font, with these integer widths."""
+    facts = []
+    for place, width in enumerate(widths):
+        factors = tuple(int(sign == place) for sign in range(len(widths)))
+        facts.append((factors, width, False))
+        facts.append((tuple(-factor for factor in factors), -width, False))
+    return letters, tuple(facts)
+
+
+def random_text(source, letters, words, most):
+    """Return a text of so many words of at most so many letters."""
+    return ' '.join(''.join(source.choices(letters, k=source.randint(1, most))) for _ in range(words))

@@ -39,6 +39,23 @@ FUNCTIONS = {
         'find_wider': ['knowledge', 'string', 'other'],
         'widest': ['knowledge', 'strings'],
     },
+    'anyfont.layouts': {
+        'conditions_of': ['letters', 'text', 'measure', 'layout'],
+        'layouts': ['knowledge', 'text', 'measure'],
+        'is_settled': ['knowledge', 'text', 'measure'],
+    },
+    'anyfont.numbers': {
+        'line_numbers': ['knowledge', 'text', 'measure'],
+        'line_starts': ['knowledge', 'text', 'measure'],
+    },
+    'anyfont.measures': {
+        'is_safe': ['knowledge', 'text', 'k', 'measure'],
+        'safe_measure': ['knowledge', 'text', 'k'],
+    },
+    'anyfont.shortening': {
+        'short_form': ['letters', 'text', 'mark', 'measure', 'font'],
+        'short_forms': ['knowledge', 'text', 'mark', 'measure'],
+    },
 }
 ERRORS = {'InvalidName': ['name'], 'NameInUse': ['name'], 'DeskFull': ['limit'], 'InvalidIndex': ['index']}
 
