@@ -54,6 +54,12 @@ def is_knowledge(value):
     return all([is_condition(letters, fact) for fact in facts])
 
 
+def without_fact(knowledge, index):
+    """Return a knowledge without one of its facts."""
+    letters, facts = knowledge
+    return letters, facts[:index] + facts[index + 1:]
+
+
 def sum_of_parts(factors, font):
     """Return the sum for a font, times its unit, so that it is an integer."""
     return sum([factor * part for factor, part in zip(factors, font[1])])

@@ -4,6 +4,7 @@ from anyfont.breaking import layouts_given
 from anyfont.claims import is_sure
 from anyfont.solving import find_font
 from anyfont.texts import lines
+from anyfont.values import is_integer
 from anyfont.widths import beyond, within
 
 
@@ -35,6 +36,21 @@ def is_settled(knowledge, text, measure):
     layout = layout_of(knowledge[0], text, measure, font)
     # Another layout is possible exactly if one of these conditions can fail.
     return all([is_sure(knowledge, condition) for condition in conditions_of(knowledge[0], text, measure, layout)])
+
+
+def all_layouts(many):
+    """Return the layouts of so many words in ascending order, possible or not."""
+    found = [(first, *others) for first in range(1, many) for others in all_layouts(many - first)]
+    return [*found, (many,)]
+
+
+def is_layout(value, many):
+    """Return whether any value is a layout of so many words."""
+    return (
+        isinstance(value, tuple)
+        and all([is_integer(item) and item >= 1 for item in value])
+        and sum(value) == many
+    )
 
 
 def layout_of(letters, text, measure, font):

@@ -1,10 +1,11 @@
 """Texts, widths of strings, and how a text breaks into lines (stage 2)."""
 
 from anyfont.knowledge import sum_of_parts
-from anyfont.values import lowest_terms
+from anyfont.values import is_integer_within, lowest_terms
 
 MOST_WORDS = 8
 MOST_LETTERS_OF_WORD = 9
+MOST_MEASURE = 999
 
 
 def is_text(letters, value):
@@ -21,6 +22,11 @@ def is_word(letters, string):
         1 <= len(string) <= MOST_LETTERS_OF_WORD
         and all([letter in letters for letter in string])
     )
+
+
+def is_measure(value):
+    """Return whether any value is a measure."""
+    return is_integer_within(value, 1, MOST_MEASURE)
 
 
 def counts(letters, string):

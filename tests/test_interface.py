@@ -56,6 +56,38 @@ FUNCTIONS = {
         'short_form': ['letters', 'text', 'mark', 'measure', 'font'],
         'short_forms': ['knowledge', 'text', 'mark', 'measure'],
     },
+    'anyfont.alike': {
+        'find_split': ['knowledge', 'text', 'measure', 'other', 'other_measure'],
+        'is_needless': ['knowledge', 'index'],
+        'trimmed': ['knowledge'],
+    },
+    'anyfont.probing': {
+        'is_question': ['letters', 'value'],
+        'answers': ['question'],
+        'answer_of': ['letters', 'question', 'font'],
+        'answer_conditions': ['letters', 'question', 'answer'],
+        'are_probes': ['letters', 'value'],
+        'is_seen': ['probes', 'value'],
+        'seen_conditions': ['letters', 'probes', 'seen'],
+        'find_agreeing': ['knowledge', 'probes', 'seen'],
+        'possible_answers': ['knowledge', 'probes', 'seen', 'question'],
+    },
+}
+CLASSES = {
+    ('anyfont.desk', 'Desk'): {
+        '__init__': ['self', 'knowledge'],
+        '__eq__': ['self', 'other'],
+        'add': ['self', 'name', 'label'],
+        'drop': ['self', 'name'],
+        'learn': ['self', 'fact'],
+        'forget': ['self', 'index'],
+        'undo': ['self'],
+        'names': ['self'],
+        'knowledge': ['self'],
+        'label': ['self', 'name'],
+        'numbers': ['self', 'name'],
+        'in_danger': ['self'],
+    },
 }
 ERRORS = {'InvalidName': ['name'], 'NameInUse': ['name'], 'DeskFull': ['limit'], 'InvalidIndex': ['index']}
 
@@ -69,6 +101,16 @@ class InterfaceTest(unittest.TestCase):
                     self.assertTrue(inspect.isfunction(function))
                     self.assertEqual(function.__module__, module)
                     self.assertEqual(list(inspect.signature(function).parameters), arguments)
+
+    def test_classes(self):
+        for (module, kind), table in CLASSES.items():
+            found = getattr(import_module(module), kind)
+            self.assertTrue(inspect.isclass(found))
+            self.assertEqual(found.__module__, module)
+            for name, arguments in table.items():
+                with self.subTest(kind=kind, name=name):
+                    # Each method stands in the class itself, not only in a base class.
+                    self.assertEqual(list(inspect.signature(vars(found)[name]).parameters), arguments)
 
     def test_errors(self):
         module = import_module('anyfont.errors')

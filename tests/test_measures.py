@@ -158,7 +158,8 @@ class IsSafeTest(MeasuresCase):
     def test_fractions_around_the_smallest(self):
         half = ('a', (((2, 0), 1, False), ((-2, 0), -1, False), ((0, 3), 4, False), ((0, -3), -4, False)))
         for measure, right in (
-            ((19, 6), True), ((3, 1), False), ((79, 25), False), ((317, 100), True), ((1, 10 ** 9), False), ((7, 1), True),
+            ((19, 6), True), ((3, 1), False), ((79, 25), False), ((317, 100), True), ((1, 10 ** 9), False),
+            ((7, 1), True),
         ):
             self.assertIs(is_safe(half, 'a a', 1, measure), right)
 
