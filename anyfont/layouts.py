@@ -56,3 +56,14 @@ def is_layout(value, many):
 def layout_of(letters, text, measure, font):
     """Return the layout of a text for a font."""
     return tuple([len(line.split(" ")) for line in lines(letters, text, measure, font)])
+
+
+def lines_of(text, layout):
+    """Return the lines of a text in a layout."""
+    words = text.split(" ")
+    found = []
+    first = 0
+    for many in layout:
+        found.append(" ".join(words[first:first + many]))
+        first += many
+    return found

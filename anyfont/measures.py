@@ -14,6 +14,7 @@ from itertools import combinations
 from anyfont.claims import highest
 from anyfont.solving import find_font
 from anyfont.texts import counts
+from anyfont.values import is_less
 from anyfont.widths import beyond_fraction
 
 
@@ -30,7 +31,7 @@ def safe_measure(knowledge, text, k):
     found = (0, 1)
     for strings in strings_of_chains(text, k):
         numerator, denominator, _ = highest_of_narrowest(knowledge, strings)
-        if numerator * found[1] > found[0] * denominator:
+        if is_less(found, (numerator, denominator)):
             found = (numerator, denominator)
     return found
 

@@ -2,7 +2,7 @@
 
 from anyfont.breaking import layouts_given
 from anyfont.claims import opposite
-from anyfont.knowledge import holds, is_condition
+from anyfont.knowledge import fits, holds, is_condition, is_font
 from anyfont.layouts import all_layouts, conditions_of, is_layout, layout_of
 from anyfont.solving import find_font
 from anyfont.texts import is_measure, is_text
@@ -109,6 +109,14 @@ def seen_conditions(letters, probes, seen):
 def find_agreeing(knowledge, probes, seen):
     """Return a font that agrees with SEEN, or None."""
     return find_font(knowledge, seen_conditions(knowledge[0], probes, seen))
+
+
+def is_agreeing(knowledge, probes, seen, value):
+    """Return whether any value is a font that agrees with SEEN."""
+    letters = knowledge[0]
+    if not is_font(letters, value) or not fits(knowledge, value):
+        return False
+    return all([holds(condition, value) for condition in seen_conditions(letters, probes, seen)])
 
 
 def possible_answers(knowledge, probes, seen, question):

@@ -35,3 +35,8 @@ def lowest_terms(numerator, denominator):
     """Return the fraction of two integers; the denominator is at least 1."""
     common = gcd(numerator, denominator)
     return numerator // common, denominator // common
+
+
+def is_less(fraction, other):
+    """Return whether a fraction is less than another one."""
+    return fraction[0] * other[1] < other[0] * fraction[1]

@@ -10,6 +10,12 @@ FIXED = (
     ),
 )
 
+# The space has no width; in TRADE an i and an m have width 10 together.
+FOUR = ('i', (((1, 0), 0, False),))
+PRINTS = ((('layout', 'i i', 6), 1), (('layout', 'i i', 8), 1), (('layout', 'i i', 12), 1))
+TRADE = ('im', (((1, 0, 0), 0, False), ((0, 1, 1), 10, False), ((0, -1, -1), -10, False)))
+SHOWN = ((('layout', 'i i', 10), 1),)
+
 LARGE = 10 ** 39 + 7
 
 

@@ -72,6 +72,33 @@ FUNCTIONS = {
         'find_agreeing': ['knowledge', 'probes', 'seen'],
         'possible_answers': ['knowledge', 'probes', 'seen', 'question'],
     },
+    'anyfont.standing': {
+        'find_showing': ['knowledge', 'probes', 'seen', 'text', 'measure', 'layout'],
+        'is_showing': ['knowledge', 'probes', 'seen', 'text', 'measure', 'layout', 'value'],
+        'find_misfit': ['knowledge', 'probes', 'seen', 'text', 'measure', 'layout'],
+    },
+    'anyfont.fewest': {
+        'find_standing': ['knowledge', 'probes', 'seen', 'text', 'measure', 'n'],
+        'find_bars': ['knowledge', 'probes', 'seen', 'text', 'measure', 'n'],
+        'are_bars': ['knowledge', 'probes', 'seen', 'text', 'measure', 'value'],
+        'fewest_lines': ['knowledge', 'probes', 'seen', 'text', 'measure'],
+    },
+    'anyfont.tops': {
+        'top_of': ['knowledge', 'probes', 'seen', 'string'],
+        'find_cover': ['knowledge', 'probes', 'seen', 'string', 'bound'],
+        'is_cover': ['knowledge', 'probes', 'seen', 'string', 'bound', 'value'],
+        'is_limit_font': ['knowledge', 'probes', 'seen', 'value'],
+        'find_limit_font': ['knowledge', 'probes', 'seen', 'string'],
+        'least_measure': ['knowledge', 'probes', 'seen', 'text', 'n'],
+    },
+    'anyfont.trees': {
+        'has_reached': ['knowledge', 'probes', 'seen', 'goal'],
+        'find_tree': ['knowledge', 'probes', 'seen', 'goal', 'd'],
+        'find_book': ['knowledge', 'probes', 'seen', 'goal', 'd'],
+        'tree_cost': ['knowledge', 'probes', 'seen', 'goal', 'value'],
+        'is_book': ['knowledge', 'probes', 'seen', 'goal', 'd', 'value'],
+        'least_cost': ['knowledge', 'probes', 'seen', 'goal'],
+    },
 }
 CLASSES = {
     ('anyfont.desk', 'Desk'): {

@@ -11,12 +11,11 @@ from anyfont.probing import (
     answer_conditions, answer_of, answers, are_probes, find_agreeing, is_question, is_seen, possible_answers,
     seen_conditions,
 )
-from samples import EMPTY, FIXED, NOTHING, ODD_VALUES, TINY, known, random_text
-from slow import random_condition, random_knowledge, slow_has_font
-from slowlines import DecidingCase, compositions, slow_layout, slow_rows
+from agreeing import AgreeingCase
+from samples import EMPTY, FIXED, FOUR, NOTHING, ODD_VALUES, PRINTS, TINY, known, random_text
+from slow import random_condition, slow_has_font
+from slowlines import compositions, slow_layout
 
-FOUR = ('i', (((1, 0), 0, False),))
-PRINTS = ((('layout', 'i i', 6), 1), (('layout', 'i i', 8), 1), (('layout', 'i i', 12), 1))
 CLAIM = ('claim', ((0, 1), 3, False))
 LAYOUT = ('layout', 'i i i', 9)
 
@@ -253,41 +252,6 @@ class SeenConditionsTest(unittest.TestCase):
     def test_lists_are_new(self):
         seen_conditions('i', PRINTS, ((0, (2,)),)).clear()
         self.assertEqual(seen_conditions('i', PRINTS, ((0, (2,)),)), [((1, 2), 6, False)])
-
-
-class AgreeingCase(DecidingCase):
-    def rows_of_seen(self, knowledge, probes, seen):
-        """Return the rows of all that was seen, in the order in which it was seen."""
-        rows = []
-        for k, answer in seen:
-            question = probes[k][0]
-            if question[0] == 'layout':
-                rows += slow_rows(knowledge[0], question[1], question[2], answer)
-            else:
-                factors, bound, strict = question[1]
-                rows.append(question[1] if answer else (tuple(-factor for factor in factors), -bound, not strict))
-        return rows
-
-    def answer(self, letters, question, font):
-        if question[0] == 'layout':
-            return slow_layout(letters, question[1], question[2], font)
-        return holds(question[1], font)
-
-    def random_case(self, source, letters, facts):
-        """Return a knowledge, probes and SEEN."""
-        knowledge = random_knowledge(source, letters, facts)
-        sizes = source.choice(((), (2,), (2, 2), (3, 2), (3, 3), (5,), (3, 4), (2, 2, 3), (2, 2, 2)))
-        probes = tuple(
-            (source.choice((
-                ('layout', random_text(source, letters, min(3, size - 1), 3), source.randint(1, 70)),
-                ('claim', random_condition(source, len(letters) + 1)),
-            )), source.randint(1, 9))
-            for size in sizes
-        )
-        seen = []
-        for k in source.sample(range(len(probes)), source.randint(0, len(probes))):
-            seen.append((k, source.choice(answers(probes[k][0]))))
-        return knowledge, probes, tuple(seen)
 
 
 class FindAgreeingTest(AgreeingCase):
