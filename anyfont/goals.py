@@ -8,15 +8,7 @@ exactly one of a leaf and a doubt exists.
 from anyfont.claims import opposite
 from anyfont.fewest import are_bars, find_bars, find_standing
 from anyfont.layouts import is_layout
-from anyfont.probing import (
-    answer_conditions,
-    answer_of,
-    answers,
-    find_agreeing,
-    is_agreeing,
-    is_answer,
-    seen_conditions,
-)
+from anyfont.probing import answer_conditions, answer_of, answers, is_agreeing, is_answer, seen_conditions
 from anyfont.refutations import is_refutation
 from anyfont.solving import find_font, find_refutation
 from anyfont.standing import find_showing, is_showing
@@ -37,10 +29,10 @@ def find_doubt(knowledge, probes, seen, goal):
 def find_two_fonts(knowledge, probes, seen, question):
     """Return two agreeing fonts with different answers to a question, or None."""
     letters = knowledge[0]
-    font = find_agreeing(knowledge, probes, seen)
+    conditions = seen_conditions(letters, probes, seen)
+    font = find_font(knowledge, conditions)
     if font is None:
         return None
-    conditions = seen_conditions(letters, probes, seen)
     # Another answer is possible exactly if one of these conditions can fail.
     for condition in answer_conditions(letters, question, answer_of(letters, question, font)):
         other = find_font(knowledge, conditions + [opposite(condition)])
@@ -73,20 +65,14 @@ def known_leaf(knowledge, probes, seen, question):
     """Return a leaf for a question that is reached."""
     letters = knowledge[0]
     conditions = seen_conditions(letters, probes, seen)
-    known = answer_known(knowledge, probes, seen, question)
+    font = find_font(knowledge, conditions)
+    # Where no font agrees, any answer will do.
+    known = answers(question)[0] if font is None else answer_of(letters, question, font)
     refutations = {
         answer: find_refutation(knowledge, conditions + answer_conditions(letters, question, answer))
         for answer in answers(question) if answer != known
     }
     return KNOWN, known, refutations
-
-
-def answer_known(knowledge, probes, seen, question):
-    """Return the answer that all agreeing fonts have to a question that is reached, or any answer without a font."""
-    font = find_agreeing(knowledge, probes, seen)
-    if font is None:
-        return answers(question)[0]
-    return answer_of(knowledge[0], question, font)
 
 
 def is_leaf(knowledge, probes, seen, goal, value):

@@ -139,8 +139,8 @@ class Search:
         if self.cost(seen) == 0:
             return find_leaf(self._known, self._probes, seen, self._goal)
         costs = {k: self._cost_of_asking(seen, k) for k in unseen(self._probes, seen)}
-        k = min([k for k in costs if costs[k] == self.cost(seen)])
-        return ASK, k, {answer: self.tree(after) for answer, after in self._after(seen, k).items()}
+        best = min([k for k in costs if costs[k] == self.cost(seen)])
+        return ASK, best, {answer: self.tree(after) for answer, after in self._after(seen, best).items()}
 
     def book(self, seen, d):
         """Return a book for d; there must be no tree of a cost of at most d."""

@@ -70,7 +70,6 @@ class AgreeingCase(DecidingCase):
 
     def agrees(self, knowledge, probes, seen, font):
         """Return whether a font agrees."""
-        unit, widths = font
         rows = all_rows(knowledge, ())
         if not all(self.answer(knowledge[0], ('claim', row), font) for row in rows):
             return False

@@ -48,6 +48,24 @@ def random_related(source, letters):
     return (letters, tuple(facts)), probes, random_seen(source, probes, source.choice((0, 0, 1))), goal
 
 
+def random_trade(source):
+    """Return a knowledge, probes, SEEN, a text and a measure, such that probes often save a line surely.
+
+    What one letter gains in width the other one loses, so that no line is too wide for
+    the fonts for which another one is.
+    """
+    both = source.randint(8, 14)
+    facts = (((1, 0, 0), 0, False), ((0, 1, 1), both, False), ((0, -1, -1), -both, False))
+    text = ' '.join(letter * source.choice((1, 1, 2)) for letter in source.choice(('iimm', 'mmii', 'imim', 'iim')))
+    measure = source.choice((both, both + both // 2, 2 * both - 1, 2 * both, 2 * both + 1))
+    questions = source.sample((
+        ('layout', 'i i', both), ('layout', 'm m', both), ('claim', ((0, 1, 0), both // 2, False)),
+        ('claim', ((0, 0, 1), both // 2, True)), ('claim', ((0, 1, -1), source.randint(-3, 3), False)),
+    ), source.randint(1, 3))
+    probes = tuple((question, source.randint(1, 4)) for question in questions)
+    return ('im', facts), probes, random_seen(source, probes, source.choice((0, 0, 1))), text, measure
+
+
 def dicts_within(value):
     """Return all dicts within a value, each as often as it is found."""
     found = []

@@ -176,10 +176,13 @@ class AreBarsTest(FewestCase):
             self.assertIs(are_bars(*SIXES, ((0, 1, SIX), (first, last, SIX))), False, (first, last))
 
     def test_all_pairs_of_words(self):
-        for first in range(-1, 8):
-            for last in range(-1, 8):
-                right = 0 <= first < last <= 5
-                self.assertIs(are_bars(*SIXES, ((first, last, SIX),)), right, (first, last))
+        # At a measure of 5 each word alone is too wide, and yet it is no bar.
+        for measure in (11, 5, 1):
+            for first in range(-8, 14):
+                for last in range(-8, 14):
+                    right = 0 <= first < last <= 5
+                    found = are_bars(*SIXES[:4], measure, ((first, last, SIX),))
+                    self.assertIs(found, right, (measure, first, last))
 
     def test_fonts(self):
         for font, right in (

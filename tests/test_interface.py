@@ -99,6 +99,17 @@ FUNCTIONS = {
         'is_book': ['knowledge', 'probes', 'seen', 'goal', 'd', 'value'],
         'least_cost': ['knowledge', 'probes', 'seen', 'goal'],
     },
+    'anyfont.prices': {
+        'lines_after': ['knowledge', 'probes', 'seen', 'text', 'measure', 'd'],
+        'price_of': ['knowledge', 'probes', 'seen', 'text', 'measure'],
+        'sure_saving': ['knowledge', 'probes', 'seen', 'text', 'measure', 'k'],
+    },
+    'anyfont.proberlogs': {
+        'prober_log': ['prober'],
+        'first_prober_fault': ['knowledge', 'probes', 'value'],
+        'is_prober_log': ['knowledge', 'probes', 'value'],
+        'resumed_prober': ['knowledge', 'probes', 'log'],
+    },
 }
 CLASSES = {
     ('anyfont.desk', 'Desk'): {
@@ -115,8 +126,28 @@ CLASSES = {
         'numbers': ['self', 'name'],
         'in_danger': ['self'],
     },
+    ('anyfont.probers', 'Prober'): {
+        '__init__': ['self', 'knowledge', 'probes'],
+        '__eq__': ['self', 'other'],
+        '__len__': ['self'],
+        'see': ['self', 'index', 'answer'],
+        'unsee': ['self', 'index'],
+        'undo': ['self'],
+        'seen': ['self'],
+        'font': ['self'],
+        'answer_to': ['self', 'question'],
+        'fewest': ['self', 'text', 'measure'],
+        'merged': ['self', 'other'],
+    },
 }
-ERRORS = {'InvalidName': ['name'], 'NameInUse': ['name'], 'DeskFull': ['limit'], 'InvalidIndex': ['index']}
+ERRORS = {
+    'anyfont.errors': {
+        'InvalidName': ['name'], 'NameInUse': ['name'], 'DeskFull': ['limit'], 'InvalidIndex': ['index'],
+    },
+    'anyfont.probererrors': {
+        'AlreadySeen': ['index'], 'InvalidAnswer': ['answer'], 'NoAgreement': ['refutation'],
+    },
+}
 
 
 class InterfaceTest(unittest.TestCase):
@@ -140,10 +171,12 @@ class InterfaceTest(unittest.TestCase):
                     self.assertEqual(list(inspect.signature(vars(found)[name]).parameters), arguments)
 
     def test_errors(self):
-        module = import_module('anyfont.errors')
-        for name, arguments in ERRORS.items():
-            with self.subTest(name=name):
-                self.assertEqual(list(inspect.signature(getattr(module, name)).parameters), arguments)
+        for module, table in ERRORS.items():
+            for name, arguments in table.items():
+                with self.subTest(module=module, name=name):
+                    kind = getattr(import_module(module), name)
+                    self.assertEqual(kind.__module__, module)
+                    self.assertEqual(list(inspect.signature(kind).parameters), arguments)
 
     def test_examples_of_the_readme(self):
         found = doctest.testfile(str(README), module_relative=False)

@@ -53,7 +53,7 @@ class TopsCase(AgreeingCase):
         return top
 
     def check_cover(self, case, bound, right):
-        knowledge, _, _, string = case
+        knowledge = case[0]
         rows = rows_of_cover(*case, bound)
         cover = find_cover(*case, bound)
         self.assertIs(cover is not None, right, (case, bound))

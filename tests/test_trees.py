@@ -153,7 +153,10 @@ class FindTreeTest(SearchingCase):
 
     def test_without_an_agreeing_font(self):
         for knowledge in EMPTY:
-            for goal in (TWO_LINES, ('lines', TEXT, 1, 1), ('layout', TEXT, 9), ('claim', ((0, 1, 0), 5, False))):
+            for goal in (
+                TWO_LINES, ('lines', TEXT, 1, 1), ('lines', 'mm', 1, 1), ('layout', TEXT, 9), ('layout', 'mm', 1),
+                ('claim', ((0, 1, 0), 5, False)),
+            ):
                 self.check(knowledge, SHOWN, (), goal, 0)
 
     def test_one_word(self):
@@ -239,30 +242,30 @@ class TreeCostTest(SearchingCase):
 
     def test_keys_that_are_equal_but_of_another_kind(self):
         case = (FOUR, ((IS_SHORT, 1),), (), IS_SHORT)
-        _, k, branches = find_tree(*case, 1)
+        branches = find_tree(*case, 1)[2]
         self.assertEqual(tree_cost(*case, ('ask', 0, branches)), 1)
         for keys in ((0, 1), (0, True), (False, 1)):
             changed = dict(zip(keys, (branches[False], branches[True])))
             self.assertEqual(changed, branches)
             self.assertIsNone(tree_cost(*case, ('ask', 0, changed)), keys)
         case = (FOUR, PRINTS[:1], ((0, (2,)),), IS_SHORT)
-        _, answer, refutations = find_tree(*case, 0)
+        refutations = find_tree(*case, 0)[2]
         self.assertEqual(tree_cost(*case, ('known', True, {False: refutations[False]})), 0)
         self.assertIsNone(tree_cost(*case, ('known', True, {0: refutations[False]})))
         self.assertIsNone(tree_cost(*case, ('known', 1, {False: refutations[False]})))
         case = (FOUR, PRINTS[:1], ((0, (2,)),), ('layout', 'i i', 7))
-        _, answer, refutations = find_tree(*case, 0)
+        refutations = find_tree(*case, 0)[2]
         self.assertEqual(tree_cost(*case, ('known', (2,), {(1, 1): refutations[1, 1]})), 0)
         for key in ((True, True), (True, 1), (1, True)):
             self.assertIsNone(tree_cost(*case, ('known', (2,), {key: refutations[1, 1]})))
         case = (TRADE, SHOWN, (), TWO_LINES)
-        _, k, branches = find_tree(*case, 1)
+        branches = find_tree(*case, 1)[2]
         for key in ((True, True), (True, 1)):
             self.assertIsNone(tree_cost(*case, ('ask', 0, {key: branches[1, 1], (2,): branches[2,]})))
 
     def test_indices_that_are_none(self):
         case = (FOUR, PRINTS, (), FOURS)
-        _, k, branches = find_tree(*case, 2)
+        branches = find_tree(*case, 2)[2]
         for other in (0, 2, 3, -1, -2, True, None, '1', (1,), 10 ** 59, [1], {}):
             self.assertIsNone(tree_cost(*case, ('ask', other, branches)), other)
         case = (FOUR, ((IS_SHORT, 1), (IS_SHORT, 2)), (), IS_SHORT)
@@ -393,9 +396,8 @@ class ArgumentsTest(unittest.TestCase):
         for probes in (PRINTS, CLAIMS, PRINTS[:2]):
             for bound in range(2, 8):
                 claim = ((0, 1), bound, False)
-                self.assertEqual(
-                    least_cost(FOUR, probes, (), ('claim', claim)), least_cost(FOUR, probes, (), ('claim', opposite(claim)))
-                )
+                costs = [least_cost(FOUR, probes, (), ('claim', either)) for either in (claim, opposite(claim))]
+                self.assertEqual(costs[0], costs[1])
 
 
 if __name__ == '__main__':
