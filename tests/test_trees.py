@@ -167,12 +167,12 @@ class FindTreeTest(SearchingCase):
     def test_arbitrary_goals(self):
         source = random.Random(3)
         costs = []
-        for _ in range(150):
+        for _ in range(100):
             letters = source.choice(('a', 'im', 'abc'))
             costs.append(self.check(*random_search(source, letters, 3)))
-        self.assertGreater(sum(cost not in (None, 0) for cost in costs), 20)
-        self.assertGreater(costs.count(None), 20)
-        self.assertGreater(costs.count(0), 20)
+        self.assertGreater(sum(cost not in (None, 0) for cost in costs), 10)
+        self.assertGreater(costs.count(None), 10)
+        self.assertGreater(costs.count(0), 10)
 
     def test_dicts_are_new_also_those_within_others(self):
         for case in ((FOUR, PRINTS, (), FOURS), (TRADE, SHOWN, (), TWO_LINES), (FOUR, CLAIMS, (), IS_FIVE)):

@@ -56,7 +56,7 @@ class TreesAndBooksTest(unittest.TestCase):
     def test_exactly_one_of_a_tree_and_a_book(self):
         source = random.Random(1)
         trees = books = 0
-        for _ in range(250):
+        for _ in range(150):
             case = random_case(source)
             knowledge, probes, seen, _ = case
             self.assertTrue(is_knowledge(knowledge) and are_probes(knowledge[0], probes) and is_seen(probes, seen))
@@ -75,7 +75,7 @@ class TreesAndBooksTest(unittest.TestCase):
                     self.assertLessEqual(tree_cost(*case, tree), d, (case, d))
                     self.assertIs(is_book(*case, d, tree), False, (case, d))
                     trees += cost > 0
-        self.assertGreater(trees, 50)
+        self.assertGreater(trees, 30)
         self.assertGreater(books, 100)
 
     def test_ways_through_trees_with_fonts(self):
@@ -131,7 +131,7 @@ class TreesAndBooksTest(unittest.TestCase):
     def test_ways_through_books(self):
         source = random.Random(3)
         ends = 0
-        for _ in range(200):
+        for _ in range(100):
             knowledge, probes, seen, goal = case = random_case(source)
             for d in budgets(probes):
                 book, left = find_book(*case, d), d
@@ -276,7 +276,7 @@ class StagesTest(unittest.TestCase):
 class ResultsTest(unittest.TestCase):
     def test_equal_results_whatever_was_called_before(self):
         source = random.Random(10)
-        cases = [random_case(source) for _ in range(40)]
+        cases = [random_case(source) for _ in range(20)]
 
         def found(case):
             return [(find_tree(*case, d), find_book(*case, d)) for d in budgets(case[1])]
